@@ -2,8 +2,9 @@
 
 WRONG = -22
 ALREADY_FALLEN = -41
-NOT_STOPPED = -17
-STOPPED = -16
+GOES_ALREADY = -17
+# Of press and pause: time is stopped. Of set: it isn't.
+NOT_NOW = -16
 FALLEN = 100
 
 PLAIN = 0
@@ -23,6 +24,8 @@ MOST_INC = 3600000
 MOST_PERIODS = 20
 LATEST = 1000000000
 MOST_LEFT = 1000000000
+MOST_SET = 86400000
+MOVES_TOLD_BELOW = 4294967296
 
 
 class Phase:
@@ -152,7 +155,7 @@ class Clocks:
         if self.loser is not None:
             return ALREADY_FALLEN
         if self.running:
-            return NOT_STOPPED
+            return GOES_ALREADY
         self.moment = t
         self.running = True
         return 0
@@ -164,17 +167,53 @@ class Clocks:
         return self.verdict()
 
     def press(self, t):
+        reached = self.reach(t)
+        if reached != 0:
+            return reached
+        self.end_move()
+        return self.mover
+
+    # What was used of this move stays: the move goes on behind the pause.
+    def pause(self, t):
+        reached = self.reach(t)
+        if reached == 0:
+            self.running = False
+        return reached
+
+    def set_left(self, number, amount):
+        if not self.has_player(number) or not 1 <= amount <= MOST_SET:
+            return WRONG
+        if self.loser is not None:
+            return ALREADY_FALLEN
+        if self.running:
+            return NOT_NOW
+        player = self.players[number]
+        player.time_left = amount
+        return 0
+
+    def left(self, number):
+        if not self.has_player(number):
+            return [WRONG]
+        player = self.players[number]
+        moves = player.moves % MOVES_TOLD_BELOW
+        return [player.time_left, player.periods, player.in_period, player.phase_number, moves]
+
+    def state(self):
+        return [self.verdict(), self.mover, self.moment, 1 if self.running else 0]
+
+    # 0 where press or pause may go on; else what they answer.
+    def reach(self, t):
         if not self.may_become(t):
             return WRONG
         if self.loser is not None:
             return ALREADY_FALLEN
         if not self.running:
-            return STOPPED
+            return NOT_NOW
         self.run_until(t)
-        if self.loser is not None:
-            return self.verdict()
-        self.end_move()
-        return self.mover
+        return self.verdict()
+
+    def has_player(self, number):
+        return number < len(self.players)
 
     def may_become(self, t):
         return self.moment <= t <= LATEST

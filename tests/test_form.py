@@ -1,6 +1,7 @@
 """The part of the language that the package keeps to, as far as a short look tells it."""
 
 import ast
+import builtins
 import pathlib
 import re
 import unittest
@@ -22,6 +23,13 @@ BUILT_IN = (
     "len range enumerate zip min max sum abs sorted reversed int str bool list tuple dict isinstance ord repr any all "
     "divmod KeyError"
 ).split()
+
+METHODS_OF_VALUES = (
+    "append clear copy count endswith extend find get index insert isalnum isalpha isdigit islower isspace isupper "
+    "items join keys ljust lower lstrip partition pop remove replace reverse rfind rjust rpartition rsplit rstrip "
+    "setdefault split splitlines startswith strip update upper values zfill bit_length"
+).split()
+NAMES_OUT = "register mro elements open input version_info with_traceback add_note format format_map".split()
 
 
 def sources():
@@ -80,3 +88,37 @@ class Form(unittest.TestCase):
                 if isinstance(node, ast.Attribute) and isinstance(node.ctx, ast.Store):
                     values.append(node.attr)
         self.assertEqual([name for name in methods if name in values], [])
+
+    def test_names_that_are_bound(self):
+        for path in sources():
+            for node in ast.walk(ast.parse(path.read_text(encoding="utf-8"))):
+                where = f"{path.name}:{getattr(node, 'lineno', 0)}"
+                name = None
+                if isinstance(node, (ast.FunctionDef, ast.ClassDef)):
+                    name = node.name
+                if isinstance(node, ast.arg):
+                    name = node.arg
+                if isinstance(node, ast.Name) and isinstance(node.ctx, ast.Store):
+                    name = node.id
+                if isinstance(node, ast.Attribute):
+                    name = node.attr
+                if name is None or name == "__init__":
+                    continue
+                self.assertRegex(name, r"\A[A-Za-z][A-Za-z0-9_]*\Z", where)
+                self.assertNotIn(name, NAMES_OUT, where)
+                if not isinstance(node, ast.Attribute):
+                    self.assertFalse(hasattr(builtins, name), f"{where}: {name}")
+
+    def test_methods_that_are_called(self):
+        trees = [ast.parse(path.read_text(encoding="utf-8")) for path in sources()]
+        own = [
+            part.name for tree in trees for node in ast.walk(tree) if isinstance(node, ast.ClassDef)
+            for part in node.body if isinstance(part, ast.FunctionDef)
+        ]
+        called = [
+            node.func.attr for tree in trees for node in ast.walk(tree)
+            if isinstance(node, ast.Call) and isinstance(node.func, ast.Attribute)
+        ]
+        self.assertEqual([name for name in called if name not in own + METHODS_OF_VALUES], [])
+        of_values = [name for kind in (str, int, list, dict, set, bytes, tuple) for name in dir(kind)]
+        self.assertEqual([name for name in own if name in of_values and name != "__init__"], [])

@@ -3,13 +3,12 @@
 import random
 import unittest
 
-from tests.helper import (
-    ADDED, BY_PERIODS, DELAYED, GIVEN_BACK, HOURGLASS, PLAIN, ask, go, now, press, row, start,
-)
+from tests.helper import ADDED, DELAYED, GIVEN_BACK, HOURGLASS, MOST_MAIN, any_later_call, any_start, ask, look
 
 
 class Slow:
-    def start(self, players, rows):
+    def start(self, players, count, *numbers):
+        rows = [numbers[k:k + 5] for k in range(0, count, 5)]
         self.rows = rows
         self.each = [
             {"left": rows[0][1], "periods": rows[0][4], "within": False, "phase": 0, "moves": 0}
@@ -54,16 +53,44 @@ class Slow:
         self.pass_until(t)
         return 0 if self.fallen is None else 100 + self.fallen
 
-    def press(self, t):
+    def pass_while_running(self, t):
         if t < self.time:
             return -22
         if self.fallen is not None:
             return -41
         if self.stopped:
             return -16
-        self.pass_until(t)
+        return self.now(t)
+
+    def pause(self, t):
+        answer = self.pass_while_running(t)
+        if answer == 0:
+            self.stopped = True
+        return answer
+
+    def set(self, player, left):
+        if player >= len(self.each) or left < 1 or left > MOST_MAIN:
+            return -22
         if self.fallen is not None:
-            return 100 + self.fallen
+            return -41
+        if not self.stopped:
+            return -16
+        self.each[player]["left"] = left
+        return 0
+
+    def left(self, player):
+        if player >= len(self.each):
+            return -22
+        one = self.each[player]
+        return [one["left"], one["periods"], int(one["within"]), one["phase"], one["moves"]]
+
+    def state(self):
+        return [0 if self.fallen is None else 100 + self.fallen, self.turn, self.time, int(not self.stopped)]
+
+    def press(self, t):
+        answer = self.pass_while_running(t)
+        if answer != 0:
+            return answer
         one = self.each[self.turn]
         moves, main, kind, inc, periods = self.rows[one["phase"]]
         if kind == ADDED:
@@ -82,18 +109,9 @@ class Slow:
         return self.turn
 
 
-def any_row(chance, moves, kinds):
-    kind = chance.choice(kinds)
-    inc = 0 if kind in (PLAIN, HOURGLASS) else chance.randint(1, 9)
-    periods = chance.randint(1, 3) if kind == BY_PERIODS else 0
-    return row(moves, chance.randint(1, 40), kind, inc, periods)
-
-
-def any_rows(chance):
-    count = chance.randint(1, 3)
-    if count == 1:
-        return [any_row(chance, 0, range(6))]
-    return [any_row(chance, chance.randint(1, 4), range(5)) for k in range(count - 1)] + [any_row(chance, 0, range(5))]
+    def answer(self, call):
+        said = (self.start, self.go, self.now, self.press, self.pause, self.set, self.left, self.state)
+        return said[call[0]](*call[1:])
 
 
 def play(chance, length):
@@ -101,40 +119,32 @@ def play(chance, length):
     slow = Slow()
     calls, due = [], []
     for k in range(length):
-        if k == 0 or chance.random() < 0.01:
-            players, rows = chance.randint(2, 4), any_rows(chance)
-            calls.append(start(players, *rows))
-            due.append(slow.start(players, rows))
-            continue
-        t = max(0, slow.time + chance.choice((-1, 0, 0, 1, 1, 2, 3, 5, 8)))
-        write, say = chance.choice(((go, slow.go), (now, slow.now), (press, slow.press), (press, slow.press)))
-        calls.append(write(t))
-        due.append(say(t))
+        first = k == 0 or chance.random() < 0.01
+        call = any_start(chance) if first else any_later_call(chance, slow.time)
+        for each in [call] + look(4):
+            calls.append(each)
+            due.append(slow.answer(each))
     return calls, due
 
 
 class BesideTheSlowOne(unittest.TestCase):
     def test_any_line(self):
         chance = random.Random(33)
-        for k in range(1500):
+        answered = {}
+        for k in range(1000):
             calls, due = play(chance, 60)
             self.assertEqual(ask(calls), due, calls)
+            for call, said in zip(calls, due):
+                if isinstance(said, int):
+                    answered.setdefault(call[0], set()).add(said)
+        self.assert_all_were_met(answered)
 
-    def test_looking_in_between_changes_nothing(self):
-        chance = random.Random(34)
-        for k in range(500):
-            begin = [start(chance.randint(2, 4), *any_rows(chance)), go(0)]
-            times = sorted(chance.randint(0, 120) for k in range(chance.randint(1, 15)))
-            seldom = ask(begin + [press(t) for t in times])
-            if max(seldom) >= 100:
-                last = [100 <= number for number in seldom].index(True) - 2
-                times, seldom = times[:last], seldom[:last + 2]
-            often, places = list(begin), [0, 1]
-            before = 0
-            for t in times:
-                often += [now(chance.randint(before, t))] + [now(t)] * chance.randint(0, 2)
-                places.append(len(often))
-                often.append(press(t))
-                before = t
-            given = ask(often)
-            self.assertEqual([given[place] for place in places], seldom)
+    def assert_all_were_met(self, answered):
+        """Lines by chance say little where an answer never comes among them."""
+        fell = {100, 101, 102, 103}
+        self.assertEqual(answered[1], {0, -22, -41, -17})
+        self.assertEqual(answered[2], {0, -22} | fell)
+        self.assertEqual(answered[3], {0, 1, 2, 3, -22, -41, -16} | fell)
+        self.assertEqual(answered[4], {0, -22, -41, -16} | fell)
+        self.assertEqual(answered[5], {0, -22, -41, -16})
+        self.assertEqual(answered[6], {-22})

@@ -1,9 +1,8 @@
 """Point 4: press, and what a move costs and gives by the kind of its phase."""
 
-from playclocks.clocks import Clocks
 from tests.helper import (
     LATEST, MOST_INC, MOST_MAIN, TOP, ClockCase, added, ask, by_periods, delayed, given_back, go, hourglass, now,
-    plain, press, start,
+    pause, plain, press, seen, set_left, start,
 )
 
 
@@ -230,23 +229,13 @@ class CutOff(ClockCase):
         self.falls(calls + [press(0), press(0)] * 229, due, 0)
         self.falls(calls + [press(0), press(0)] * 230, LATEST, 0)
 
-    def test_only_who_moved_is_cut_off(self):
-        clocks = self.clocks_with([0, 100, 0, 0, 0], LATEST + 9)
-        clocks.press(0)
-        self.assertEqual([player.time_left for player in clocks.players], [LATEST, LATEST + 9])
-
     def test_of_an_hourglass_nothing_is_cut_off(self):
-        clocks = self.clocks_with([0, 100, 5, 0, 0], LATEST + 9)
-        self.assertEqual(clocks.press(2), 1)
-        self.assertEqual([player.time_left for player in clocks.players], [LATEST + 7, LATEST + 11])
-        self.assertEqual(clocks.press(2), 0)
-        self.assertEqual([player.time_left for player in clocks.players], [LATEST + 7, LATEST + 11])
-
-    def clocks_with(self, numbers, left):
-        """No list of these calls alone brings an hourglass so far, so it is laid by hand."""
-        clocks = Clocks()
-        clocks.start(2, numbers)
-        clocks.go(0)
-        for player in clocks.players:
-            player.time_left = left
-        return clocks
+        # What player 0 is given anew runs to player 1, who never uses any of it.
+        calls, t = [start(2, hourglass(MOST_MAIN)), go(0)], 0
+        while t + MOST_MAIN <= LATEST:
+            t += MOST_MAIN - 1
+            calls += [press(t), press(t), pause(t), set_left(0, MOST_MAIN), go(t)]
+        calls += [press(LATEST), press(LATEST)]
+        self.assertEqual(max(ask(calls)), 1)
+        spent = LATEST - t
+        self.assertEqual(seen(calls, 2)[:2], [[MOST_MAIN - spent, 0, 0, 0, 12], [MOST_MAIN + LATEST, 0, 0, 0, 12]])
